@@ -1,0 +1,1 @@
+"""Two wanderers on a net who go by the same word."""

@@ -1,0 +1,142 @@
+"""Two wanderers on a net who go by the same word: how near they come."""
+
+NO_NET = -22
+NO_PLACE = -2
+NOT_ALIKE = -33
+
+MOST_PLACES = 7
+MOST_LINKS = 10
+
+
+def near(n, u, v, net):
+    """How near the alike places u and v come, how many letters the first shortest such word has, and the word."""
+    refused = refusal(n, u, v, net)
+    if refused is not None:
+        return [refused]
+    exits = exits_of(n, net)
+    if not alike(u, v, exits):
+        return [NOT_ALIKE]
+    words = words_to_twos(u, v, exits)
+    # min takes the first of like ones, and the twos stand in the order of their words.
+    nearest = min(list(words), key=lambda two: distance(two, exits))
+    word = words[nearest]
+    return [distance(nearest, exits), len(word)] + word
+
+
+def refusal(n, u, v, net):
+    """The refusal that is due of a net and two of its places, or None."""
+    if not is_net(n, net):
+        return NO_NET
+    if u >= n or v >= n:
+        return NO_PLACE
+    return None
+
+
+def is_net(n, net):
+    """Whether n places and these links make a net."""
+    if n < 1 or n > MOST_PLACES:
+        return False
+    if len(net) % 2 == 1 or len(net) > 2 * MOST_LINKS:
+        return False
+    return are_links(n, links_of(net)) and hangs_together(exits_of(n, net))
+
+
+def links_of(net):
+    """The links as twos of places, in the order in which they're told."""
+    return [(net[k], net[k + 1]) for k in range(0, len(net), 2)]
+
+
+def are_links(n, links):
+    """Whether each link is between two different places that are there, and no two between the same."""
+    told = {}
+    for a, b in links:
+        if a >= n or b >= n or a == b or (a, b) in told:
+            return False
+        # A link may be told again the other way round.
+        told[(a, b)] = True
+        told[(b, a)] = True
+    return True
+
+
+def exits_of(n, net):
+    """Of each place its exits in order: the place each leads to, and the exit of that place by which one comes in."""
+    exits = [[] for place in range(n)]
+    for a, b in links_of(net):
+        exit_of_a = len(exits[a])
+        exit_of_b = len(exits[b])
+        exits[a].append((b, exit_of_b))
+        exits[b].append((a, exit_of_a))
+    return exits
+
+
+def hangs_together(exits):
+    """Whether every place is reached from place 0."""
+    return len(distances_from(0, exits)) == len(exits)
+
+
+def distances_from(start, exits):
+    """How many links each place that can be reached is away from start."""
+    away = {start: 0}
+    reached = [start]
+    at = 0
+    while at < len(reached):
+        place = reached[at]
+        for way in exits[place]:
+            if way[0] not in away:
+                away[way[0]] = away[place] + 1
+                reached.append(way[0])
+        at += 1
+    return away
+
+
+def distance(two, exits):
+    """How many links the two places are away from each other."""
+    return distances_from(two[0], exits)[two[1]]
+
+
+def behind_letter(place, letter, exits):
+    """The place to which a letter leads."""
+    if letter == 0 or letter > len(exits[place]):
+        return place
+    return exits[place][letter - 1][0]
+
+
+def alike(u, v, exits):
+    """Whether by no word something else is seen from u than from v."""
+    marks = [len(ways) for ways in exits]
+    # A round that splits no mark is the last that could, and there are no more marks than places.
+    for step in range(len(exits)):
+        marks = marks_one_step_on(marks, exits)
+    return marks[u] == marks[v]
+
+
+def marks_one_step_on(marks, exits):
+    """New marks, the same for places that had the same and see the same marks by each exit."""
+    sights = [sight_from(place, marks, exits) for place in range(len(exits))]
+    return [sights.index(sight) for sight in sights]
+
+
+def sight_from(place, marks, exits):
+    """The mark of a place, and of each exit by which exit one comes in and the mark of the place there."""
+    return (marks[place], [(came_in, marks[there]) for there, came_in in exits[place]])
+
+
+def words_to_twos(u, v, exits):
+    """Of each two places to which some word leads from u and v the first of the shortest such words.
+
+    The twos stand in the order of their words: shorter ones first, of like length by the first letter that differs.
+    """
+    most_exits = max([len(ways) for ways in exits])
+    words = {(u, v): []}
+    reached = [(u, v)]
+    at = 0
+    while at < len(reached):
+        two = reached[at]
+        # A letter above the most exits leads nowhere else than 0, so it is in no first shortest word.
+        for letter in range(most_exits + 1):
+            onward = (behind_letter(two[0], letter, exits), behind_letter(two[1], letter, exits))
+            if onward not in words:
+                words[onward] = words[two] + [letter]
+                reached.append(onward)
+        at += 1
+    return words

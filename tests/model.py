@@ -1,0 +1,107 @@
+"""The document's words taken one by one, slowly, to hold the program's answers against."""
+
+import itertools
+
+BIG = 4294967295
+
+
+def links_at(place, net):
+    """The exits of a place: its links, as numbers of links, in the order in which they're told."""
+    return [k // 2 for k in range(0, len(net), 2) if place in net[k:k + 2]]
+
+
+def is_net(n, net):
+    if not 1 <= n <= 7 or len(net) % 2 or len(net) > 20:
+        return False
+    if any(place >= n for place in net):
+        return False
+    links = [frozenset(net[k:k + 2]) for k in range(0, len(net), 2)]
+    if any(len(link) == 1 for link in links) or len(set(links)) < len(links):
+        return False
+    groups = [{place} for place in range(n)]
+    for link in links:
+        touched = [group for group in groups if group & link]
+        groups = [group for group in groups if not group & link] + [set().union(*touched)]
+    return len(groups) == 1
+
+
+def table(n, net):
+    """For each place and letter used where it leads and what is seen then."""
+    used = max(len(links_at(place, net)) for place in range(n)) + 1
+    steps = {}
+    for place in range(n):
+        mine = links_at(place, net)
+        for letter in range(used):
+            there, entry = place, 0
+            if 1 <= letter <= len(mine):
+                link = mine[letter - 1]
+                there = sum(net[2 * link:2 * link + 2]) - place
+                entry = 1 + links_at(there, net).index(link)
+            steps[place, letter] = (there, (entry, len(links_at(there, net))))
+    return used, steps
+
+
+def gone(place, word, steps):
+    """Where a word leads, and what is seen by it behind the first sight."""
+    sights = []
+    for letter in word:
+        place, sight = steps[place, letter]
+        sights.append(sight)
+    return place, sights
+
+
+def are_alike(n, net, u, v):
+    """Whether by all words of n - 1 letters the same is seen: places that aren't alike are told apart by then."""
+    if u == v:
+        return True
+    if len(links_at(u, net)) != len(links_at(v, net)):
+        return False
+    used, steps = table(n, net)
+    words = itertools.product(range(used), repeat=n - 1)
+    return all(gone(u, word, steps)[1] == gone(v, word, steps)[1] for word in words)
+
+
+def distance(n, net, a, b):
+    """The fewest links between two places, by going one link on at a time."""
+    here, count = {a}, 0
+    while b not in here:
+        here = here | {p for k in range(0, len(net), 2) for p in net[k:k + 2] if here & set(net[k:k + 2])}
+        count += 1
+    return count
+
+
+def near(n, u, v, net, longest):
+    """How near alike places come by words of at most so many letters, and the first such word."""
+    used, steps = table(n, net)
+    best = None
+    for count in range(longest + 1):
+        for word in itertools.product(range(used), repeat=count):
+            away = distance(n, net, gone(u, word, steps)[0], gone(v, word, steps)[0])
+            if best is None or away < best[0]:
+                best = [away, count] + list(word)
+    return best
+
+
+def some_net(chance, n):
+    """Any net of n places."""
+    pairs = list(itertools.combinations(range(n), 2))
+    while True:
+        links = chance.sample(pairs, chance.randint(n - 1, min(10, len(pairs))))
+        net = [place for link in links for place in chance.sample(link, 2)]
+        if is_net(n, net):
+            return net
+
+
+def mirrored_net(chance, n):
+    """A net of n places, n even, in which 0 and 1, 2 and 3, 4 and 5 are alike: each link has its twin beside it."""
+    pairs = list(itertools.combinations(range(n), 2))
+    while True:
+        net = []
+        for a, b in chance.sample(pairs, len(pairs)):
+            link, twin = [a, b], [a ^ 1, b ^ 1]
+            here = [set(net[k:k + 2]) for k in range(0, len(net), 2)]
+            new = link if set(link) == set(twin) else link + twin
+            if set(link) not in here and len(net) + len(new) <= 20:
+                net += new
+            if is_net(n, net) and chance.random() < 0.3:
+                return net
