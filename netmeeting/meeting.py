@@ -1,11 +1,15 @@
-"""Two wanderers on a net who go by the same word: how near they come."""
+"""Two wanderers on a net who go by the same word: how near they come, and whether they meet."""
 
 NO_NET = -22
 NO_PLACE = -2
 NOT_ALIKE = -33
+TOO_LONG = -22
+NO_MEETING = -33
 
 MOST_PLACES = 7
 MOST_LINKS = 10
+MOST_LETTERS = 30
+MOST_STEPS_LATER = 20
 
 
 def near(n, u, v, net):
@@ -21,6 +25,23 @@ def near(n, u, v, net):
     nearest = min(list(words), key=lambda two: distance(two, exits))
     word = words[nearest]
     return [distance(nearest, exits), len(word)] + word
+
+
+def meets(n, u, v, d, net, word):
+    """Behind how many steps the wanderers from u and, d steps later, from v meet by the word, and where."""
+    refused = refusal(n, u, v, net)
+    if refused is not None:
+        return [refused]
+    if len(word) > MOST_LETTERS or d > MOST_STEPS_LATER:
+        return [TOO_LONG]
+    exits = exits_of(n, net)
+    first = places_by_word(u, word, exits)
+    second = places_by_word(v, word, exits)
+    for step in range(len(word) + d + 1):
+        place = place_at(step, first)
+        if place == place_at(step - d, second):
+            return [step, place]
+    return [NO_MEETING]
 
 
 def refusal(n, u, v, net):
@@ -99,6 +120,19 @@ def behind_letter(place, letter, exits):
     if letter == 0 or letter > len(exits[place]):
         return place
     return exits[place][letter - 1][0]
+
+
+def places_by_word(start, word, exits):
+    """The places where one is behind 0 letters of the word, behind 1, and so on to its end."""
+    places = [start]
+    for letter in word:
+        places.append(behind_letter(places[-1], letter, exits))
+    return places
+
+
+def place_at(step, places):
+    """Where one is that stands till step 0 in the first of these places, and from their end on in the last."""
+    return places[min(max(step, 0), len(places) - 1)]
 
 
 def alike(u, v, exits):

@@ -82,6 +82,21 @@ def near(n, u, v, net, longest):
     return best
 
 
+def meets(u, v, d, net, word):
+    """Both wanderers gone step by step; the answer for a net and places that are as told."""
+    here, step = [u, v], 0
+    while here[0] != here[1]:
+        if step == len(word) + d:
+            return [-33]
+        for who, begins in ((0, 0), (1, d)):
+            mine = links_at(here[who], net)
+            if begins <= step < begins + len(word) and 1 <= word[step - begins] <= len(mine):
+                link = mine[word[step - begins] - 1]
+                here[who] = sum(net[2 * link:2 * link + 2]) - here[who]
+        step += 1
+    return [step, here[0]]
+
+
 def some_net(chance, n):
     """Any net of n places."""
     pairs = list(itertools.combinations(range(n), 2))
