@@ -44,6 +44,17 @@ def meets(n, u, v, d, net, word):
     return [NO_MEETING]
 
 
+def can(n, u, v, d, net):
+    """1 if u and v aren't alike or come as near as d steps, else 0."""
+    refused = refusal(n, u, v, net)
+    if refused is not None:
+        return [refused]
+    exits = exits_of(n, net)
+    if not alike(u, v, exits) or how_near(u, v, exits) <= d:
+        return [1]
+    return [0]
+
+
 def refusal(n, u, v, net):
     """The refusal that is due of a net and two of its places, or None."""
     if not is_net(n, net):
@@ -153,6 +164,11 @@ def marks_one_step_on(marks, exits):
 def sight_from(place, marks, exits):
     """The mark of a place, and of each exit by which exit one comes in and the mark of the place there."""
     return (marks[place], [(came_in, marks[there]) for there, came_in in exits[place]])
+
+
+def how_near(u, v, exits):
+    """The least distance of two places to which one word leads from u and v."""
+    return min([distance(two, exits) for two in list(words_to_twos(u, v, exits))])
 
 
 def words_to_twos(u, v, exits):
