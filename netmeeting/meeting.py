@@ -5,11 +5,14 @@ NO_PLACE = -2
 NOT_ALIKE = -33
 TOO_LONG = -22
 NO_MEETING = -33
+TOO_MANY_WAYS = -75
 
 MOST_PLACES = 7
 MOST_LINKS = 10
 MOST_LETTERS = 30
 MOST_STEPS_LATER = 20
+MOST_STEPS_LATER_TO_SEARCH = 2
+MOST_EXITS_TO_SEARCH = 4
 
 
 def near(n, u, v, net):
@@ -20,11 +23,11 @@ def near(n, u, v, net):
     exits = exits_of(n, net)
     if not alike(u, v, exits):
         return [NOT_ALIKE]
-    words = words_to_twos(u, v, exits)
-    # min takes the first of like ones, and the twos stand in the order of their words.
-    nearest = min(list(words), key=lambda two: distance(two, exits))
+    words = words_to_states(u, v, 0, exits)
+    # min takes the first of like ones, and the states stand in the order of their words.
+    nearest = min(list(words), key=lambda state: distance(state[0], state[1], exits))
     word = words[nearest]
-    return [distance(nearest, exits), len(word)] + word
+    return [distance(nearest[0], nearest[1], exits), len(word)] + word
 
 
 def meets(n, u, v, d, net, word):
@@ -53,6 +56,21 @@ def can(n, u, v, d, net):
     if not alike(u, v, exits) or how_near(u, v, exits) <= d:
         return [1]
     return [0]
+
+
+def found(n, u, v, d, net):
+    """Behind how few steps the wanderers from u and, d steps later, from v can meet, and the first word to do it."""
+    refused = refusal(n, u, v, net)
+    if refused is not None:
+        return [refused]
+    exits = exits_of(n, net)
+    if d > MOST_STEPS_LATER_TO_SEARCH or most_exits(exits) > MOST_EXITS_TO_SEARCH:
+        return [TOO_MANY_WAYS]
+    words = words_to_states(u, v, d, exits)
+    for state in list(words):
+        if state[0] == state[1]:
+            return [len(words[state])] + words[state]
+    return [NO_MEETING]
 
 
 def refusal(n, u, v, net):
@@ -121,9 +139,14 @@ def distances_from(start, exits):
     return away
 
 
-def distance(two, exits):
+def distance(a, b, exits):
     """How many links the two places are away from each other."""
-    return distances_from(two[0], exits)[two[1]]
+    return distances_from(a, exits)[b]
+
+
+def most_exits(exits):
+    """The most exits that a place has."""
+    return max([len(ways) for ways in exits])
 
 
 def behind_letter(place, letter, exits):
@@ -168,25 +191,36 @@ def sight_from(place, marks, exits):
 
 def how_near(u, v, exits):
     """The least distance of two places to which one word leads from u and v."""
-    return min([distance(two, exits) for two in list(words_to_twos(u, v, exits))])
+    states = list(words_to_states(u, v, 0, exits))
+    return min([distance(state[0], state[1], exits) for state in states])
 
 
-def words_to_twos(u, v, exits):
-    """Of each two places to which some word leads from u and v the first of the shortest such words.
+def words_to_states(u, v, d, exits):
+    """Of each state that the wanderers come to the first of the shortest words that lead there.
 
-    The twos stand in the order of their words: shorter ones first, of like length by the first letter that differs.
+    A state is where the first is, where the second is, and the letters that the second has still to go by.
+    They stand in the order of their words: shorter ones first, of like length by the first letter that differs.
     """
-    most_exits = max([len(ways) for ways in exits])
-    words = {(u, v): []}
-    reached = [(u, v)]
+    start = (u, v, ())
+    words = {start: []}
+    reached = [start]
     at = 0
     while at < len(reached):
-        two = reached[at]
+        state = reached[at]
         # A letter above the most exits leads nowhere else than 0, so it is in no first shortest word.
-        for letter in range(most_exits + 1):
-            onward = (behind_letter(two[0], letter, exits), behind_letter(two[1], letter, exits))
+        for letter in range(most_exits(exits) + 1):
+            onward = state_one_step_on(state, letter, d, exits)
             if onward not in words:
-                words[onward] = words[two] + [letter]
+                words[onward] = words[state] + [letter]
                 reached.append(onward)
         at += 1
     return words
+
+
+def state_one_step_on(state, letter, d, exits):
+    """The state behind a step in which the first goes by the letter, and the second by the one of d steps ago."""
+    first = behind_letter(state[0], letter, exits)
+    waiting = state[2] + (letter,)
+    if len(waiting) <= d:
+        return (first, state[1], waiting)
+    return (first, behind_letter(state[1], waiting[0], exits), waiting[1:])

@@ -110,6 +110,57 @@ def meets(u, v, d, net, word):
     return [step, here[0]]
 
 
+def found_by_trying(n, u, v, d, net, longest):
+    """The first of the shortest words, of at most so many letters, by which they meet as it ends; None if none does."""
+    used = table(n, net)[0]
+    for count in range(longest + 1):
+        for word in itertools.product(range(used), repeat=count):
+            if meets(u, v, d, net, word)[0] == count:
+                return [count] + list(word)
+    return None
+
+
+def ranks(n, d, net):
+    """Once both go: of where both are and the last d letters how few steps from there they meet, if ever they can.
+
+    It is gone backward from where they have met, so it tells for good that by no word they meet.
+    """
+    used, steps = table(n, net)
+    onward = {}
+    for a, b, last in itertools.product(range(n), range(n), itertools.product(range(used), repeat=d)):
+        onward[a, b, last] = [
+            (steps[a, x][0], steps[b, (last + (x,))[0]][0], (last + (x,))[1:]) for x in range(used)
+        ]
+    few = {state: 0 for state in onward if state[0] == state[1]}
+    count = 0
+    while count in few.values():
+        for state in onward:
+            if state not in few and any(few.get(after) == count for after in onward[state]):
+                few[state] = count + 1
+        count += 1
+    return few, onward
+
+
+def found(n, u, v, d, net, told=None):
+    """The whole answer for a net and places that are as told, from the ranks (told: those, if they're there)."""
+    few, onward = told or ranks(n, d, net)
+    used, steps = table(n, net)
+    words = []
+    for count in range(d + 1):
+        for word in itertools.product(range(used), repeat=count):
+            state = (gone(u, word, steps)[0], v, word)
+            if state[0] == v:
+                words.append([count] + list(word))
+            elif count == d and state in few:
+                # Of the letters that lead on with one step fewer to go the first.
+                while few[state] > 0:
+                    left = few[state] - 1
+                    letter = [few.get(after) for after in onward[state]].index(left)
+                    word, state = word + (letter,), onward[state][letter]
+                words.append([len(word)] + list(word))
+    return min(words, default=[-33])
+
+
 def some_net(chance, n):
     """Any net of n places."""
     pairs = list(itertools.combinations(range(n), 2))
