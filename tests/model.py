@@ -5,8 +5,8 @@ import itertools
 BIG = 4294967295
 
 ELEVEN_LINKS = [place for link in list(itertools.combinations(range(6), 2))[:11] for place in link]
-# Each breaks what a net is: how many places, an odd length, more than 10 links, a link from a place to itself, two links
-# between the same places, a place that isn't there, places that don't hang together.
+# Each breaks what a net is: how many places, an odd length, more than 10 links, a link from a place to itself, two
+# links between the same places, a place that isn't there, places that don't hang together.
 NO_NETS = (
     (0, []), (0, [0, 1]), (8, [0, 1, 1, 2, 2, 3, 3, 4, 4, 5, 5, 6, 6, 7]), (BIG, []), (BIG, [0, 1]),
     (1, [0]), (2, [0, 1, 0]), (3, [0, 1, 1, 2, 2]), (2, [0, 1] * 11 + [0]),
