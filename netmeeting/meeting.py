@@ -73,6 +73,17 @@ def found(n, u, v, d, net):
     return [NO_MEETING]
 
 
+def least(n, u, v, net):
+    """0 if u and v aren't alike, else how near they come."""
+    refused = refusal(n, u, v, net)
+    if refused is not None:
+        return [refused]
+    exits = exits_of(n, net)
+    if not alike(u, v, exits):
+        return [0]
+    return [how_near(u, v, exits)]
+
+
 def refusal(n, u, v, net):
     """The refusal that is due of a net and two of its places, or None."""
     if not is_net(n, net):

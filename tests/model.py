@@ -95,6 +95,28 @@ def near(n, u, v, net, longest):
     return best
 
 
+def twos_reached(n, u, v, net):
+    """All twos of places to which words lead from u and v, gone on till no more come: no bound of a word is needed."""
+    used, steps = table(n, net)
+    here, more = set(), {(u, v)}
+    while more:
+        here |= more
+        more = {(steps[a, x][0], steps[b, x][0]) for a, b in more for x in range(used)} - here
+    return here
+
+
+def least(n, u, v, net):
+    """The answer for a net and places that are as told: 0 if by some word something else is seen, else how near."""
+    used, steps = table(n, net)
+    twos = twos_reached(n, u, v, net)
+    for a, b in twos:
+        if len(links_at(a, net)) != len(links_at(b, net)):
+            return 0
+        if any(steps[a, letter][1] != steps[b, letter][1] for letter in range(used)):
+            return 0
+    return min(distance(n, net, a, b) for a, b in twos)
+
+
 def meets(u, v, d, net, word):
     """Both wanderers gone step by step; the answer for a net and places that are as told."""
     here, step = [u, v], 0
@@ -184,3 +206,20 @@ def mirrored_net(chance, n):
                 net += new
             if is_net(n, net) and chance.random() < 0.3:
                 return net
+
+
+def net_of_matchings(chance, n):
+    """A net of n places, n even, in which all are alike: by exit e each place is linked to exit e of its fellow."""
+    while True:
+        net = []
+        for turn in range(chance.randint(1, 4)):
+            places = chance.sample(range(n), n)
+            net += places
+        if is_net(n, net):
+            return net
+
+
+def renamed(chance, n, net):
+    """The same net with its places numbered otherwise."""
+    names = chance.sample(range(n), n)
+    return [names[place] for place in net]
