@@ -52,10 +52,9 @@ def can(n, u, v, d, net):
     refused = refusal(n, u, v, net)
     if refused is not None:
         return [refused]
-    exits = exits_of(n, net)
-    if not alike(u, v, exits) or how_near(u, v, exits) <= d:
-        return [1]
-    return [0]
+    if kept_apart(u, v, d, exits_of(n, net)):
+        return [0]
+    return [1]
 
 
 def found(n, u, v, d, net):
@@ -82,6 +81,18 @@ def least(n, u, v, net):
     if not alike(u, v, exits):
         return [0]
     return [how_near(u, v, exits)]
+
+
+def twins(n, d, net):
+    """How many twos of alike places, the lesser first, don't come as near as d steps, and these in order."""
+    if not is_net(n, net):
+        return [NO_NET]
+    exits = exits_of(n, net)
+    twos = [two for two in twos_of_places(n) if kept_apart(two[0], two[1], d, exits)]
+    answer = [len(twos)]
+    for u, v in twos:
+        answer.extend([u, v])
+    return answer
 
 
 def refusal(n, u, v, net):
@@ -198,6 +209,20 @@ def marks_one_step_on(marks, exits):
 def sight_from(place, marks, exits):
     """The mark of a place, and of each exit by which exit one comes in and the mark of the place there."""
     return (marks[place], [(came_in, marks[there]) for there, came_in in exits[place]])
+
+
+def twos_of_places(n):
+    """All twos of different places, the lesser first, in order."""
+    twos = []
+    for u in range(n):
+        for v in range(u + 1, n):
+            twos.append((u, v))
+    return twos
+
+
+def kept_apart(u, v, d, exits):
+    """Whether u and v are alike and don't come as near as d steps."""
+    return alike(u, v, exits) and how_near(u, v, exits) > d
 
 
 def how_near(u, v, exits):

@@ -117,6 +117,12 @@ def least(n, u, v, net):
     return min(distance(n, net, a, b) for a, b in twos)
 
 
+def twins(n, d, net):
+    """The answer for a net as told; the twos that aren't alike have a least of 0, which is above no d."""
+    twos = [(u, v) for u, v in itertools.combinations(range(n), 2) if least(n, u, v, net) > d]
+    return [len(twos)] + [place for two in twos for place in two]
+
+
 def meets(u, v, d, net, word):
     """Both wanderers gone step by step; the answer for a net and places that are as told."""
     here, step = [u, v], 0

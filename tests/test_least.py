@@ -81,6 +81,16 @@ class OrdinaryNets(unittest.TestCase):
         self.assertNotIn(0, [model.distance(4, net, a, b) for a, b in model.twos_reached(4, 0, 1, net)])
         self.assertEqual(least(4, 0, 1, net), [0])
 
+    def test_told_apart_by_two_letters_alone(self):
+        # By each word of 1 letter the same is seen from 1 and 2, and by no word gone from both they'd be in one place.
+        net = [5, 1, 0, 5, 2, 3, 0, 4, 3, 4, 2, 1]
+        used, steps = model.table(6, net)
+        for letter in range(used):
+            self.assertEqual(steps[1, letter][1], steps[2, letter][1])
+        self.assertTrue(all(a != b for a, b in model.twos_reached(6, 1, 2, net)))
+        self.assertEqual(least(6, 1, 2, net), [0])
+        self.assertEqual(least(6, 2, 1, net), [0])
+
     def test_ten_links_are_not_too_many(self):
         whole_of_five = [place for link in itertools.combinations(range(5), 2) for place in link]
         self.assertEqual(len(whole_of_five), 20)
